@@ -8,6 +8,7 @@ import (
 	"testing"
 
 	"landmark/api"
+	"landmark/codec"
 )
 
 // P11.3: who is active, and with what stake, by numbers at, below and above the members'.
@@ -103,11 +104,10 @@ func TestLooksByChance(t *testing.T) {
 			perturb(source, &r)
 		}
 		holdLooks(t, r)
-		holdAnchor(t, r, api.Point{Epoch: source.Uint64()}, source.Uint64N(1<<62+1<<60))
 	}
 }
 
-// holdAnchor wants Anchor to tell what the chapter does: an anchor of the active ones in order, if it may be.
+// holdAnchor wants Anchor to tell what the chapter does: an anchor of the active ones in order, if the register and it may be.
 func holdAnchor(t *testing.T, r api.Register, p api.Point, decay uint64) (api.Anchor, api.Errno) {
 	t.Helper()
 	before, active := copyOf(r), modelVotes(r)
@@ -117,7 +117,7 @@ func holdAnchor(t *testing.T, r api.Register, p api.Point, decay uint64) (api.An
 			want.Validators = append(want.Validators, api.Validator{Key: m.Key, Stake: m.Stake})
 		}
 	}
-	if !MayAnchor(want) {
+	if !modelMay(r) || !codec.MayAnchor(want) {
 		want, code = api.Anchor{}, api.ErrArg
 	}
 	for range 2 {
@@ -147,21 +147,15 @@ func TestAnchor(t *testing.T) {
 	if e != api.OK || told(r) != "a4 a3 a5 a9[] []" || r.Churn != 7 {
 		t.Error(told(r), e)
 	}
-	// Somebody who goes is one of them, also where nobody is left of MemberActive.
-	if a, e := holdAnchor(t, register(7, "x1 g2"), p, 0); e != api.OK || len(a.Validators) != 1 {
-		t.Error(a, e)
+	// The lines' order is free, and is no matter of the anchor's.
+	if b, e := holdAnchor(t, lined(register(7, "c1 a4 x2 g3 g5! c6 a9!"), []int{6, 1}, []int{5, 4}), p, 8); e != api.OK || !codec.SameAnchor(a, b) {
+		t.Error(b, e)
 	}
 }
 
-// P11.3: registers, checkpoints and decays of which no anchor may be, and such at the bounds of which one may.
-func TestAnchorMayNot(t *testing.T) {
-	like := register(9, "a4 a5 x6 x7")
-	like.Members[1].Key = keyOf(1)
-	likeGone := register(9, "a4 a5 x6 c7")
-	likeGone.Members[2].Key, likeGone.Members[3].Key = keyOf(1), keyOf(2)
-	wrong := register(9, "a4 x5")
-	wrong.Members[1].Status = 9
-	well := register(9, "a4 a5")
+// P11.3: checkpoints and decays of which no anchor may be, and such at the bounds of which one may; registers at the bounds.
+func TestAnchorBounds(t *testing.T) {
+	well := register(9, "a4 a5 g6 c7 x8!")
 	for i, c := range []struct {
 		r     api.Register
 		epoch uint64
@@ -174,30 +168,61 @@ func TestAnchorMayNot(t *testing.T) {
 		{well, math.MaxUint64, 0, api.ErrArg},
 		{well, 0, 1<<62 + 1, api.ErrArg},
 		{well, 0, math.MaxUint64, api.ErrArg},
-		{api.Register{}, 0, 0, api.ErrArg},
-		{api.Register{Churn: 9}, 0, 0, api.ErrArg},
-		{register(9, "c1 x2"), 0, 0, api.ErrArg},
-		{register(0, "a4"), 0, 0, api.ErrArg},
+		{well, api.MaxEpoch + 1, 1<<62 + 1, api.ErrArg},
+		{register(9, "g4"), api.MaxEpoch + 1, 1<<62 + 1, api.ErrArg},
 		{register(1, "a4"), 0, 0, api.OK},
 		{register(1<<62, "a4"), 0, 0, api.OK},
-		{register(1<<62+1, "a4"), 0, 0, api.ErrArg},
-		{register(9, "a0"), 0, 0, api.ErrArg},
-		{register(9, "a4 g0"), 0, 0, api.ErrArg},
-		{register(9, "a4294967296"), 0, 0, api.OK},
-		{register(9, "a4294967297"), 0, 0, api.ErrArg},
-		{like, 0, 0, api.ErrArg},
+		{register(9, "a4294967296 x4294967296"), 0, 0, api.OK},
+		{many(63, api.MemberActive), 0, 0, api.OK},
 		{many(63, api.MemberGoing), 0, 0, api.OK},
-		{many(64, api.MemberGoing), 0, 0, api.ErrArg},
-		// Registers that may not be, of which an anchor may: what is wrong is not of the active ones.
-		{likeGone, 0, 0, api.OK},
-		{wrong, 0, 0, api.OK},
-		{register(9, "a4 x0 c9999999999"), 0, 0, api.OK},
-		{many(64, api.MemberGone), 0, 0, api.OK},
-		{lined(well, []int{7, 1}, []int{-1}), 0, 0, api.OK},
-		{register(9, "g4"), 0, 0, api.OK},
+		{many(63, api.MemberGone), 0, 0, api.OK},
 	} {
 		if a, e := holdAnchor(t, c.r, api.Point{Epoch: c.epoch, Name: api.Hash{1}}, c.decay); e != c.want {
 			t.Errorf("%d: %s: %v, %v; want %v", i, told(c.r), a, e, c.want)
 		}
+	}
+}
+
+// P11.3: of a register that may not be there is no anchor, also where its active ones, its churn, the checkpoint and the decay would make one.
+func TestAnchorOfNoRegister(t *testing.T) {
+	for _, c := range mayCases() {
+		if c.may {
+			continue
+		}
+		for _, p := range []api.Point{{}, {Epoch: 9, Name: api.Hash{1}}} {
+			if a, e := holdAnchor(t, c.r, p, 7); e != api.ErrArg {
+				t.Errorf("%s: %v, %v", told(c.r), a, e)
+			}
+		}
+	}
+	// The looks of the same promise take it still.
+	r := lined(register(1, "a4"), nil, []int{0})
+	if !Active(r, 1) || Total(r) != 4 || Stake(r, 1) != 4 || Find(r, keyOf(1)) != 1 || May(r) {
+		t.Error("a line that names nobody: Active, Total, Stake, Find, May")
+	}
+}
+
+// P11.3: by chance, registers of which some may not be, with checkpoints and decays of which some may not be.
+func TestAnchorByChance(t *testing.T) {
+	source := rand.New(rand.NewPCG(11, 6))
+	// far is mostly from 0 to 2^62, and sometimes above.
+	far := func() uint64 { return source.Uint64N(1<<62 + 1<<59) }
+	isAnchor, byRegister := 0, 0
+	for range 20000 {
+		r := someRegister(source)
+		for range source.IntN(3) {
+			perturb(source, &r)
+		}
+		p, decay := api.Point{Epoch: far(), Name: api.Hash{1}}, far()
+		_, e := holdAnchor(t, r, p, decay)
+		switch {
+		case e == api.OK:
+			isAnchor++
+		case p.Epoch <= api.MaxEpoch && decay <= 1<<62:
+			byRegister++
+		}
+	}
+	if isAnchor < 4000 || byRegister < 4000 {
+		t.Error("how many are anchors, and how many are none by the register alone:", isAnchor, byRegister)
 	}
 }

@@ -103,13 +103,16 @@ func changed(n int, change func(m *api.Member)) api.Register {
 	return r
 }
 
-// P11.1: whether a register may be: of each thing that the chapter names, at its bounds and beyond them, by itself.
-func TestMay(t *testing.T) {
+// mayCase is a register, and whether it may be.
+type mayCase struct {
+	may bool
+	r   api.Register
+}
+
+// mayCases are registers of each thing that the chapter names, at its bounds and beyond them, by itself.
+func mayCases() []mayCase {
 	base := register(9, "a4 c5 g6 x7 a8! c9")
-	for i, c := range []struct {
-		may bool
-		r   api.Register
-	}{
+	return []mayCase{
 		{true, base},
 		{false, api.Register{}},
 		{false, api.Register{Churn: 9}},
@@ -176,14 +179,23 @@ func TestMay(t *testing.T) {
 		{false, register(0, "a4")}, {true, register(1, "a4 c5 g6")}, {true, register(1<<62, "a4")}, {false, register(1<<62+1, "a4")}, {false, register(math.MaxUint64, "a4")},
 		// Nobody of MemberActive.
 		{false, register(9, "g4")}, {false, register(9, "c5 g6 x7 g6")}, {true, register(9, "c5 g6 x7 a1")}, {false, register(9, "x1")},
-	} {
+	}
+}
+
+// P11.1: whether a register may be.
+func TestMay(t *testing.T) {
+	for i, c := range mayCases() {
 		if got := May(c.r); got != c.may || modelMay(c.r) != c.may {
 			t.Errorf("%d: %d members, %v, %v, churn %d: %v", i, len(c.r.Members), c.r.Coming, c.r.Going, c.r.Churn, got)
 		}
-		// Next takes just those that may be.
+		// Next and Anchor take just those that may be.
 		r, e := Next(c.r, api.Header{Epoch: 6}, 5)
 		if (e == api.OK) != c.may || !c.may && (e != api.ErrArg || !reflect.DeepEqual(r, api.Register{})) {
 			t.Errorf("%d: Next: %v", i, e)
+		}
+		a, e := Anchor(c.r, api.Point{Epoch: 6}, 5)
+		if (e == api.OK) != c.may || !c.may && (e != api.ErrArg || !reflect.DeepEqual(a, api.Anchor{})) {
+			t.Errorf("%d: Anchor: %v", i, e)
 		}
 	}
 }
